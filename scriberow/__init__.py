@@ -1,0 +1,1 @@
+"""Scriberow: one row of sayings, settled by most of the scribes."""
