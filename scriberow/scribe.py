@@ -1,5 +1,7 @@
 """A scribe, its book, and what it promises and puts."""
 
+from scriberow.counting import next_number
+
 
 class Scribe:
     def __init__(self, own, count):
@@ -21,6 +23,14 @@ class Scribe:
             return False
         self.row[place] = (number, saying)
         return True
+
+    # What was promised to others is passed over here: a scribe may rise under a number that even itself refuses.
+    def rise(self):
+        self.seen = next_number(self.count, self.own, self.seen)
+        return self.seen
+
+    def see(self, number):
+        self.seen = max(self.seen, number)
 
 
 def tried_once(scribe, attempt):

@@ -2,6 +2,7 @@
 
 import ast
 import builtins
+import functools
 import re
 import unittest
 from pathlib import Path
@@ -18,6 +19,15 @@ OWN_METHODS = set(
     "items join keys ljust lower lstrip partition pop remove replace reverse rfind rjust rpartition rsplit rstrip "
     "setdefault split splitlines startswith strip update upper values zfill bit_length".split()
 )
+CHANGING_METHODS = set("append clear extend insert pop remove reverse setdefault update".split())
+PYTHONS_OWN = {name for kind in (str, int, list, tuple, dict, set, frozenset, bytes) for name in dir(kind)}
+VALUES_TOO = set("count index title find get join lower upper split strip copy add".split())
+KEYWORDS = {
+    "sorted": {"key", "reverse"}, "min": {"key", "default"}, "max": {"key", "default"}, "sum": {"start"},
+    "enumerate": {"start"}, "zip": {"strict"},
+}
+WALKERS = set("list tuple dict sorted sum any all enumerate zip".split())
+ERRORS_TAKEN_FREELY = {"KeyError", "ZeroDivisionError", "StopIteration"}
 DUNDER_METHODS = {"__init__", "__eq__", "__repr__", "__str__", "__len__"}
 WALKED_AT_ONCE = {"zip", "enumerate", "reversed", "range", "items", "keys", "values"}
 WORDS_NOWHERE = re.compile(
@@ -43,12 +53,43 @@ def package_files():
     return sorted(path for path in PACKAGE.rglob("*") if path.is_file() and "__pycache__" not in path.parts)
 
 
+@functools.cache
 def trees():
     return [(path, ast.parse(path.read_text(encoding="utf-8"))) for path in package_files()]
 
 
 def nodes_of(kind):
     return [(f"{path.name}:{node.lineno}", node) for path, tree in trees() for node in ast.walk(tree) if isinstance(node, kind)]
+
+
+def around(kind):
+    """Each node of the kind with where it stands and the node that it stands in."""
+    found = []
+    for path, tree in trees():
+        for outer in ast.walk(tree):
+            for node in ast.iter_child_nodes(outer):
+                if isinstance(node, kind):
+                    found.append((f"{path.name}:{node.lineno}", node, outer))
+    return found
+
+
+def called_name(node):
+    return node.func.id if isinstance(node, ast.Call) and isinstance(node.func, ast.Name) else None
+
+
+@functools.cache
+def own_methods():
+    return {part.name for _, node in nodes_of(ast.ClassDef) for part in node.body if isinstance(part, ast.FunctionDef)}
+
+
+@functools.cache
+def own_values():
+    return {node.attr for _, node in nodes_of(ast.Attribute) if isinstance(node.ctx, ast.Store)}
+
+
+@functools.cache
+def own_classes():
+    return {node.name for _, node in nodes_of(ast.ClassDef)}
 
 
 def bound_names(node):
@@ -158,7 +199,7 @@ class Code(unittest.TestCase):
             self.assertLessEqual(len(node.generators[0].ifs), 1, where)
         for where, node in nodes_of(ast.Compare):
             if any(isinstance(op, (ast.Is, ast.IsNot)) for op in node.ops):
-                self.assertIsInstance(node.comparators[-1], ast.Constant, where)
+                self.assertTrue(any(node.comparators[-1].value is value for value in (None, True, False)), where)
 
     def test_names(self):
         python_names = set(dir(builtins))
@@ -174,18 +215,101 @@ class Code(unittest.TestCase):
                 if isinstance(node, ast.arg):
                     self.assertNotIn(node.arg, python_names, f"{path.name}:{node.lineno}")
 
+    def test_no_name_has_two_meanings_in_a_file(self):
+        for path, tree in trees():
+            taken = {alias.name for node in tree.body if isinstance(node, ast.ImportFrom) for alias in node.names}
+            taken |= {node.name for node in tree.body if isinstance(node, ast.ClassDef)} | set(dir(builtins))
+            for node in ast.walk(tree):
+                if isinstance(node, ast.arg) or isinstance(node, ast.Name) and isinstance(node.ctx, ast.Store):
+                    self.assertNotIn(bound_names(node)[0], taken, f"{path.name}:{node.lineno}")
+            top = {name for node in tree.body for name in bound_names(node)}
+            self.assertEqual(top & taken - own_classes(), set(), path.name)
+
+    def test_the_top_of_a_file_keeps_plain_values_alone(self):
+        for path, tree in trees():
+            for node in tree.body:
+                if isinstance(node, ast.Assign):
+                    self.assertIsInstance(node.value, ast.Constant, f"{path.name}:{node.lineno}")
+
+    def test_no_annotations(self):
+        for where, node in nodes_of(ast.FunctionDef):
+            self.assertIsNone(node.returns, where)
+        for where, node in nodes_of(ast.arg):
+            self.assertIsNone(node.annotation, where)
+
     def test_methods(self):
-        own = {part.name for _, node in nodes_of(ast.ClassDef) for part in node.body if isinstance(part, ast.FunctionDef)}
-        kept = {node.attr for _, node in nodes_of(ast.Attribute) if isinstance(node.ctx, ast.Store)}
-        self.assertEqual(own & kept, set())
+        own = own_methods()
+        self.assertEqual(own & own_values(), set())
         for where, node in nodes_of(ast.Call):
             if isinstance(node.func, ast.Attribute):
                 self.assertIn(node.func.attr, OWN_METHODS | own, where)
+        for where, node, outer in around(ast.Attribute):
+            if node.attr in OWN_METHODS - own_values() | own:
+                self.assertTrue(isinstance(outer, ast.Call) and outer.func is node, where)
+
+    def test_own_methods_and_values(self):
+        free = DUNDER_METHODS | {"add", "discard"} | OWN_METHODS
+        self.assertEqual(own_methods() & PYTHONS_OWN - free, set())
+        self.assertEqual(own_values() & (PYTHONS_OWN | {"args"}) - VALUES_TOO, set())
+        for where, node in nodes_of(ast.ClassDef):
+            names = [part.name for part in node.body if isinstance(part, ast.FunctionDef)]
+            self.assertEqual(len(names), len(set(names)), where)
+            for part in node.body:
+                if isinstance(part, ast.FunctionDef) and part.name == "__init__":
+                    self.assertFalse(any(isinstance(inner, ast.Return) for inner in ast.walk(part)), where)
+
+    def test_classes_are_called_or_stand_by_name(self):
+        for where, node, outer in around(ast.Name):
+            if node.id in own_classes():
+                stands = isinstance(outer, (ast.ClassDef, ast.ExceptHandler)) or called_name(outer) == "isinstance"
+                self.assertTrue(stands or isinstance(outer, ast.Call) and outer.func is node, where)
+
+    def test_errors(self):
+        for where, node in nodes_of(ast.ExceptHandler):
+            self.assertIsInstance(node.type, ast.Name, where)
+            self.assertIn(node.type.id, own_classes() | ERRORS_TAKEN_FREELY, where)
+        for where, node in nodes_of(ast.Raise):
+            self.assertIn(called_name(node.exc), own_classes(), where)
+
+    def test_pythons_own_as_they_are_called(self):
+        for where, node, outer in around(ast.Name):
+            if node.id in OWN_NAMES and not isinstance(outer, (ast.ClassDef, ast.ExceptHandler, ast.keyword)):
+                called = isinstance(outer, ast.Call) and outer.func is node
+                self.assertTrue(called or called_name(outer) == "isinstance", where)
+        for where, node in nodes_of(ast.Call):
+            name = called_name(node)
+            if name in OWN_NAMES or name is None:
+                self.assertLessEqual({keyword.arg for keyword in node.keywords}, KEYWORDS.get(name, set()), where)
 
     def test_what_is_walked_at_once_is_not_kept(self):
-        for where, node in nodes_of((ast.Assign, ast.Return)):
-            if isinstance(node.value, ast.Call):
-                self.assertFalse(WALKED_AT_ONCE & set(bound_names(node.value.func)), where)
+        for where, node, outer in around(ast.Call):
+            if not WALKED_AT_ONCE & set(bound_names(node.func)):
+                continue
+            name = called_name(outer)
+            walked = isinstance(outer, (ast.For, ast.comprehension)) and outer.iter is node
+            handed = name in WALKERS and outer.args[0] is node or name in ("min", "max") and outer.args == [node]
+            joined = isinstance(outer, ast.Call) and ast.unparse(outer.func) in ("' '.join", "''.join")
+            self.assertTrue(walked or handed or joined, where)
+
+    def test_what_is_walked_is_not_changed(self):
+        for where, node in nodes_of(ast.For):
+            walked = {ast.unparse(part) for part in ast.walk(node.iter) if isinstance(part, (ast.Name, ast.Attribute))}
+            for part in [inner for line in node.body for inner in ast.walk(line)]:
+                if isinstance(part, ast.Subscript) and isinstance(part.ctx, ast.Store):
+                    self.assertNotIn(ast.unparse(part.value), walked, where)
+                if isinstance(part, ast.Call) and isinstance(part.func, ast.Attribute) and part.func.attr in CHANGING_METHODS:
+                    self.assertNotIn(ast.unparse(part.func.value), walked, where)
+
+    def test_numbers_and_texts(self):
+        for where, node in nodes_of(ast.FormattedValue):
+            self.assertIsInstance(node.value, ast.Name, where)
+            self.assertIsNone(node.format_spec, where)
+            self.assertIn(node.conversion, (-1, ord("r")), where)
+        for where, node in nodes_of((ast.BinOp, ast.AugAssign)):
+            self.assertFalse(isinstance(node.op, ast.Pow), where)
+        for path in package_files():
+            self.assertNotRegex(path.read_text(), r"\\[^nt\\\"']")
+            self.assertNotRegex(path.read_text(), r"[0-9]{900}")
 
     def test_sets_are_not_kept(self):
         for where, node in nodes_of((ast.Assign, ast.Return, ast.For)):
